@@ -1,0 +1,139 @@
+"""The interface stands where the document lists it, and the files keep the sizes and characters they may have."""
+
+import ast
+import unittest
+from pathlib import Path
+
+PACKAGE = Path(__file__).resolve().parent.parent / "turnsleft"
+
+# for each file its functions, and its classes with their methods and properties; stars mark keyword-only parameters
+INTERFACE = {
+    "words": {
+        "is_name": "value", "is_number": "value", "is_tone": "value", "tone_of": "over under", "tone_text": "tone",
+        "read_tone": "text",
+    },
+    "ratios": {
+        "Ratio": {
+            "__init__": "over under=1", "of_powers": "powers", "read": "text", "powers": "", "bits": "", "power": "k",
+            "below": "other", "as_tone": "", "text": "", "__str__": "", "__repr__": "", "__mul__": "other",
+            "__floordiv__": "other", "__eq__": "other",
+        },
+        "is_ratio": "value", "is_length": "value", "multiplied": "ratios", "in_order": "ratios",
+    },
+    "tones": {"led": "tone ratio", "compared": "tone ratio", "within": "tone start length"},
+    "matrices": {"determinant": "matrix", "rank_of": "matrix", "common_minor": "matrix"},
+    "wedges": {
+        "Wedge": {
+            "__init__": "pairs bits=(0, 0, 0, 0, 0, 0)", "pairs": "", "bits": "", "at": "p q", "matrix": "", "flat": "",
+            "rank": "", "owed": "", "content": "", "__add__": "other", "__sub__": "other", "__neg__": "", "__mul__": "k",
+            "__rmul__": "k", "__eq__": "other", "__bool__": "", "text": "", "__str__": "", "__repr__": "",
+        },
+        "wedge_of": "u v", "nothing": "", "pfaffian": "wedge primes", "square_at": "wedge primes",
+    },
+    "relations": {"relation": "ratios", "is_loose": "ratios", "root_of": "ratio", "is_base_part": "ratios"},
+    "atoms": {"atoms_of": "lengths", "cut_along": "start word atoms"},
+    "sums": {"turned_pairs": "rows", "pair_sum": "rows", "straight_matrix": "rows"},
+    "exchanges": {
+        "Exchange": {
+            "__init__": "top rows", "rows": "", "laid": "", "image": "start length", "__call__": "tone",
+            "walk": "tone many", "__rshift__": "other", "__invert__": "", "times": "k", "wedge": "", "fair": "", "owed": "",
+            "__eq__": "other", "__len__": "", "text": "", "__str__": "", "read": "text", "__repr__": "",
+        },
+    },
+    "moves": {
+        "Turn": {
+            "__init__": "start first second", "end": "", "wedge": "", "on": "top", "smaller": "", "__eq__": "other",
+            "__repr__": "",
+        },
+        "Swap": {
+            "__init__": "first second length", "end": "", "wedge": "", "on": "top", "__eq__": "other", "__repr__": "",
+        },
+        "still": "top", "fold": "top by", "arranged": "lengths order", "commutator": "e f",
+    },
+    "courses": {
+        "Course": {
+            "__init__": "top swaps *room=None", "swaps": "", "keeps": "", "product": "", "wide": "", "made": "",
+            "walk": "tone", "__add__": "other", "__invert__": "", "carried": "exchange", "cancelled": "", "__eq__": "other",
+            "__len__": "", "__repr__": "",
+        },
+    },
+}
+STATIC = ("of_powers", "read")
+PROPERTIES = {"wedges": "flat rank owed content", "exchanges": "wedge fair owed", "moves": "end wedge", "courses": "keeps product"}
+
+
+def parameters(function):
+    """The parameters of a function as a text, without the object of a method."""
+    plain = function.args.args
+    free = [None] * (len(plain) - len(function.args.defaults)) + function.args.defaults
+    named = [(argument.arg, value) for argument, value in zip(plain, free)]
+    named += [("*" + argument.arg, value) for argument, value in zip(function.args.kwonlyargs, function.args.kw_defaults)]
+    words = [name if value is None else f"{name}={ast.unparse(value)}" for name, value in named]
+    return " ".join(word for word in words if word != "self")
+
+
+def defined(body):
+    """The functions and classes that a body defines, by their names."""
+    return {node.name: node for node in body if isinstance(node, (ast.FunctionDef, ast.ClassDef))}
+
+
+class InterfaceTest(unittest.TestCase):
+    def test_defined_where_listed(self):
+        for name, listed in INTERFACE.items():
+            found = defined(ast.parse((PACKAGE / f"{name}.py").read_text()).body)
+            for entry, told in listed.items():
+                self.assertIn(entry, found)
+                if isinstance(told, str):
+                    self.assertEqual(parameters(found[entry]), told, entry)
+                    continue
+                methods = defined(found[entry].body)
+                for method, words in told.items():
+                    self.assertIn(method, methods, entry)
+                    self.assertEqual(parameters(methods[method]), words, method)
+                    marks = [mark.id for mark in methods[method].decorator_list]
+                    own = method in PROPERTIES.get(name, "").split()
+                    wished = ["staticmethod"] if method in STATIC else ["property"] if own else []
+                    self.assertEqual(marks, wished, method)
+
+
+class FormTest(unittest.TestCase):
+    def test_one_folder_of_files(self):
+        for path in PACKAGE.iterdir():
+            if path.name != "__pycache__":
+                self.assertTrue(path.is_file() and path.suffix == ".py", path)
+
+    def test_sizes_and_characters(self):
+        for path in PACKAGE.glob("*.py"):
+            text = path.read_text()
+            lines = text.split("\n")
+            self.assertLessEqual(len(lines), 400, path)
+            self.assertLessEqual(max(len(line) for line in lines), 120, path)
+            self.assertTrue(all(" " <= sign <= "~" or sign == "\n" for sign in text), path)
+            for node in ast.walk(ast.parse(text)):
+                if isinstance(node, ast.FunctionDef):
+                    self.assertLessEqual(node.end_lineno - node.lineno + 1, 40, node.name)
+
+    def test_imports(self):
+        library = {"math": {"gcd", "lcm"}, "itertools": {"combinations"}}
+        needs = {}
+        for path in PACKAGE.glob("*.py"):
+            needs[path.stem] = set()
+            for node in ast.walk(ast.parse(path.read_text())):
+                self.assertNotIsInstance(node, ast.Import)
+                if isinstance(node, ast.ImportFrom):
+                    names = {alias.name for alias in node.names}
+                    head, _, tail = node.module.partition(".")
+                    if head == "turnsleft":
+                        needs[path.stem].add(tail)
+                    else:
+                        self.assertLessEqual(names, library[node.module])
+        done = set()
+        while needs:
+            ready = {name for name, wanted in needs.items() if wanted <= done}
+            self.assertTrue(ready, "files import one another in a circle")
+            done |= ready
+            needs = {name: wanted for name, wanted in needs.items() if name not in ready}
+
+
+if __name__ == "__main__":
+    unittest.main()

@@ -1,0 +1,1 @@
+"""Turnsleft: stretches of pitch exchanged, and the turns that are left."""
