@@ -76,6 +76,7 @@ class ToldTest(unittest.TestCase):
         self.assertEqual(Course(TWO, [SWAP]), Course(TWO, [SWAP], room=TWO))
         self.assertNotEqual(Course(TWO, [SWAP]), Course(TWO, [SWAP], room=FOUR))
         self.assertNotEqual(Course(TWO, [SWAP]), Course(FOUR, [SWAP]))
+        self.assertNotEqual(Course(TWO, [SWAP], room=FOUR), Course(FOUR, [SWAP], room=FOUR))
         self.assertNotEqual(Course(TWO, [SWAP]), Course(TWO, [SWAP, SWAP]))
         for value in any_values() + [[SWAP], SWAP]:
             self.assertIs(Course(FOUR, [SWAP]) == value, False)

@@ -121,7 +121,7 @@ def _split_at(pieces, cut):
     if place == cut:
         return pieces[:at], pieces[at:]
     if not cut.below(place * length):
-        return pieces[:at + 1], pieces[at + 1:]
+        return pieces, []
     lower = cut // place
     upper = (cut, length // lower, home * lower)
     return [*pieces[:at], (place, lower, home)], [upper, *pieces[at + 1:]]

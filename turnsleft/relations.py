@@ -33,9 +33,7 @@ def relation(ratios):
             vector = _without(vector, lead, row)
         lead = lead_of(vector)
         if lead >= len(PRIMES):
-            exponents = vector[len(PRIMES):]
-            shared = shared_by(exponents)
-            return tuple([exponent // shared for exponent in exponents])
+            return tuple(vector[len(PRIMES):])
         kept.append((lead, vector))
     return None
 

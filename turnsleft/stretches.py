@@ -8,14 +8,11 @@ from turnsleft.ratios import Ratio, is_length, is_ratio, multiplied, order_of
 from turnsleft.words import is_listed
 
 
-def is_stretch(value):
-    """Whether any value is a tuple of a ratio and a length."""
-    return isinstance(value, tuple) and len(value) == 2 and is_ratio(value[0]) and is_length(value[1])
-
-
 def is_row(value):
     """Whether any value is a tuple of a ratio, a length and a ratio."""
-    return isinstance(value, tuple) and len(value) == 3 and is_stretch(value[:2]) and is_ratio(value[2])
+    if not isinstance(value, tuple) or len(value) != 3:
+        return False
+    return is_ratio(value[0]) and is_length(value[1]) and is_ratio(value[2])
 
 
 def lies_within(start, length, low, high):
