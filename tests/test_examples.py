@@ -2,8 +2,9 @@
 
 import unittest
 
-from turnsleft.errors import NotFilled
+from turnsleft.errors import NotFair, NotFilled
 from turnsleft.exchanges import Exchange
+from turnsleft.making import course_for
 from turnsleft.moves import Swap, Turn, fold
 from turnsleft.ratios import Ratio
 
@@ -33,6 +34,11 @@ class ExamplesTest(unittest.TestCase):
         with self.assertRaises(NotFilled) as caught:
             Exchange(Ratio(2), [(Ratio(1), Ratio(3, 2), Ratio(1))])
         self.assertEqual(caught.exception.missing, Ratio(4, 3))
+
+    def test_not_fair(self):
+        with self.assertRaises(NotFair) as caught:
+            course_for(fold(Ratio(2), Ratio(3, 2)))
+        self.assertEqual((caught.exception.first, caught.exception.second), (2, 3))
 
 
 if __name__ == "__main__":

@@ -57,6 +57,14 @@ INTERFACE = {
             "__len__": "", "__repr__": "",
         },
     },
+    "letters": {"steps_home": "order"},
+    "making": {"course_for": "exchange", "course_between": "e f"},
+    "sorting": {"same_sort": "e f", "sorts": "exchanges"},
+    "pairing": {"paired_course": "exchange"},
+    "normal": {"normal_sum": "wedge", "divisors": "wedge", "anchor_of": "wedge"},
+    "placing": {
+        "shrunk": "turn *most", "turns_for": "wedge *low *high", "resolved": "exchange *low=None *high=None",
+    },
 }
 STATIC = ("of_powers", "read")
 PROPERTIES = {"wedges": "flat rank owed content", "exchanges": "wedge fair owed", "moves": "end wedge", "courses": "keeps product"}
@@ -114,7 +122,7 @@ class FormTest(unittest.TestCase):
                     self.assertLessEqual(node.end_lineno - node.lineno + 1, 40, node.name)
 
     def test_imports(self):
-        library = {"math": {"gcd", "lcm"}, "itertools": {"combinations"}}
+        library = {"math": {"gcd", "isqrt", "lcm"}, "itertools": {"combinations"}}
         needs = {}
         for path in PACKAGE.glob("*.py"):
             needs[path.stem] = set()

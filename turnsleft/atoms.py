@@ -5,38 +5,16 @@ step by step: one part is divided by another one, and the exponents follow. In t
 0 come to an end. At last, parts are put together again where they only occur together.
 """
 
+from turnsleft.keys import LOGS, dot
 from turnsleft.ratios import in_order, is_length, ratio_with
 from turnsleft.relations import is_loose, shared_by
-from turnsleft.stairs import counts_on, less, staircase_of
-
-# the logarithms of the primes, times ten to the 50th; they only guide the choice of steps
-LOGS = (
-    69314718055994530941723212145817656807550013436025,
-    109861228866810969139524523692252570464749055782274,
-    160943791243410037460075933322618763952560135426851,
-    194591014905531330510535274344317972963708472958186,
-    239789527279837054406194357796512929982170685393741,
-    256494935746153673605348744156531860480526794476020,
-)
-
+from turnsleft.stairs import counts_on, less, nearest, staircase_of
 
 def _step(parts, counts, one, other, times):
     """Divide one part so many times by another one."""
     parts[one] = less(parts[one], times, parts[other])
     for row in counts:
         row[other] = row[other] + times * row[one]
-
-
-def _dot(one, other):
-    """The sum of the products of the items of two vectors."""
-    return sum([own * item for own, item in zip(one, other)])
-
-
-def _nearest(number, divisor):
-    """The whole number next to a fraction; of two that are as near, the one next to 0."""
-    if number < 0:
-        return -_nearest(-number, divisor)
-    return (2 * number + divisor - 1) // (2 * divisor)
 
 
 def _shorten(parts, counts):
@@ -46,8 +24,8 @@ def _shorten(parts, counts):
         going = False
         for one in range(len(parts)):
             for other in range(len(parts)):
-                square = _dot(parts[other], parts[other])
-                times = 0 if one == other else _nearest(_dot(parts[one], parts[other]), square)
+                square = dot(parts[other], parts[other])
+                times = 0 if one == other else nearest(dot(parts[one], parts[other]), square)
                 if times != 0:
                     _step(parts, counts, one, other, times)
                     going = True
@@ -70,7 +48,7 @@ def _facing(counts, one, other):
 def _best_step(parts, counts):
     """The division that takes most away from what stands below 0, with how many times it may be done."""
     ratios = [ratio_with(part) for part in parts]
-    sizes = [max(1, _dot(part, LOGS)) for part in parts]
+    sizes = [max(1, dot(part, LOGS)) for part in parts]
     best = (0, 0, 0, 0)
     for one in range(len(parts)):
         for other in range(len(parts)):
@@ -143,17 +121,28 @@ def _taken_apart(lengths):
     return [ratio_with(parts[at]) for at in used], [[row[at] for at in used] for row in counts]
 
 
-def atoms_of(lengths):
-    """The pair of a list of atoms of lengths, and a list with a word for each length."""
+def atom_counts(lengths):
+    """The pair of a list of atoms of lengths, and for each length how often each atom goes into it."""
     different = in_order(lengths)
     atoms, counts = _taken_apart(different)
-    words = {}
+    rows = {}
     for length, row in zip(different, counts):
-        word = []
-        for at, many in enumerate(row):
-            word.extend([at] * many)
-        words[length.as_tone()] = tuple(word)
-    return atoms, [words[length.as_tone()] for length in lengths]
+        rows[length.as_tone()] = row
+    return atoms, [list(rows[length.as_tone()]) for length in lengths]
+
+
+def _spelt(row):
+    """The word that has each atom as often as a row says."""
+    word = []
+    for at, many in enumerate(row):
+        word.extend([at] * many)
+    return tuple(word)
+
+
+def atoms_of(lengths):
+    """The pair of a list of atoms of lengths, and a list with a word for each length."""
+    atoms, counts = atom_counts(lengths)
+    return atoms, [_spelt(row) for row in counts]
 
 
 def cut_along(start, word, atoms):

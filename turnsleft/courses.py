@@ -2,9 +2,11 @@
 
 from turnsleft.errors import BadRoom, BadSwap, BadTop, NotKept, NotOnLine, OtherLine
 from turnsleft.exchanges import Exchange
+from turnsleft.keys import key_of, ratio_at
 from turnsleft.moves import Swap
+from turnsleft.pieces import swapped
 from turnsleft.ratios import Ratio, is_length, is_ratio, multiplied
-from turnsleft.stretches import cut_to, place_among
+from turnsleft.stretches import cut_to
 from turnsleft.tones import led, within
 from turnsleft.words import is_listed, is_tone
 
@@ -114,38 +116,12 @@ class Course:
         return f"Course({len(self._swaps)} swaps)"
 
 
-def _split_at(pieces, cut):
-    """Pieces (place, length, home) that follow one another, those below a ratio and those from it on."""
-    at = place_among(pieces, cut)
-    place, length, home = pieces[at]
-    if place == cut:
-        return pieces[:at], pieces[at:]
-    if not cut.below(place * length):
-        return pieces, []
-    lower = cut // place
-    upper = (cut, length // lower, home * lower)
-    return [*pieces[:at], (place, lower, home)], [upper, *pieces[at + 1:]]
-
-
-def _swapped(pieces, swap):
-    """Pieces (place, length, home) that fill the wide line, behind one more swap."""
-    below, rest = _split_at(pieces, swap.first)
-    lower, rest = _split_at(rest, swap.first * swap.length)
-    between, rest = _split_at(rest, swap.second)
-    upper, above = _split_at(rest, swap.end)
-    shift = swap.second // swap.first
-    down = [(place // shift, length, home) for place, length, home in upper]
-    up = [(place * shift, length, home) for place, length, home in lower]
-    return [*below, *down, *between, *up, *above]
-
-
 def _wide_rows(room, swaps):
     """Rows that tell the exchange of the wide line by swaps, one after another."""
-    unit = Ratio(1)
-    pieces = [(unit, room, unit)]
+    pieces = [(0, key_of(room), 0)]
     for swap in swaps:
-        pieces = _swapped(pieces, swap)
-    return [(home, length, place // home) for place, length, home in pieces]
+        pieces = swapped(pieces, key_of(swap.first), key_of(swap.second), key_of(swap.length))
+    return [(ratio_at(home), ratio_at(length), ratio_at(place - home)) for place, length, home in pieces]
 
 
 def _stays_behind(rows, top):

@@ -7,6 +7,7 @@ from turnsleft.words import are_numbers, is_number, read_tone, tone_text
 
 PRIMES = (2, 3, 5, 7, 11, 13)
 MOST_POWER = 9999
+MANY = 500
 
 
 class Ratio:
@@ -95,19 +96,28 @@ def _raised(base, exponent):
     return raised
 
 
+def _made_of(powers):
+    """The product of the primes, each as often as powers from 0 on say."""
+    number = 1
+    if max(powers) < MANY:
+        for prime, power in zip(PRIMES, powers):
+            number = number * _raised(prime, power)
+        return number
+    # great numbers are squared once for all primes together, and 2 needs no multiplication at all
+    for at in reversed(range(max(powers).bit_length())):
+        number = number * number
+        for prime, power in zip(PRIMES[1:], powers[1:]):
+            if (power >> at) % 2 == 1:
+                number = number * prime
+    return number << powers[0]
+
+
 def ratio_with(powers):
     """The ratio with these powers, however great they are."""
-    over = 1
-    under = 1
-    for prime, power in zip(PRIMES, powers):
-        if power > 0:
-            over = over * _raised(prime, power)
-        elif power < 0:
-            under = under * _raised(prime, -power)
     # the powers are known, so they need not be sought in the numbers
     ratio = Ratio(1)
-    ratio.over = over
-    ratio.under = under
+    ratio.over = _made_of([power if power > 0 else 0 for power in powers])
+    ratio.under = _made_of([-power if power < 0 else 0 for power in powers])
     ratio._powers = tuple(powers)
     return ratio
 

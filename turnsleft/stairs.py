@@ -9,6 +9,15 @@ def lead_of(vector):
     return None
 
 
+def nearest(number, divisor):
+    """The whole number next to a fraction; of two that are as near, the one next to 0."""
+    if divisor < 0:
+        return nearest(-number, -divisor)
+    if number < 0:
+        return -nearest(-number, divisor)
+    return (2 * number + divisor - 1) // (2 * divisor)
+
+
 def less(vector, times, row):
     """A vector without so many times a row."""
     return [own - times * item for own, item in zip(vector, row)]
