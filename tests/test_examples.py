@@ -4,6 +4,8 @@ import unittest
 
 from turnsleft.errors import NotFair, NotFilled
 from turnsleft.exchanges import Exchange
+from turnsleft.folds import fold_for
+from turnsleft.lattices import Lattice
 from turnsleft.making import course_for
 from turnsleft.moves import Swap, Turn, fold
 from turnsleft.ratios import Ratio
@@ -34,6 +36,15 @@ class ExamplesTest(unittest.TestCase):
         with self.assertRaises(NotFilled) as caught:
             Exchange(Ratio(2), [(Ratio(1), Ratio(3, 2), Ratio(1))])
         self.assertEqual(caught.exception.missing, Ratio(4, 3))
+
+    def test_fold_for(self):
+        tone = fold(Ratio(2), Ratio(9, 8))
+        self.assertEqual(repr(fold_for(tone.times(3))), "Ratio(729/512)")
+
+    def test_lattice(self):
+        lattice = Lattice(2, (2, 4), (3, 1))
+        found = [lattice.staircase(), (0, 10) in lattice, (0, 5) in lattice, len(lattice)]
+        self.assertEqual(found, [[(1, 7), (0, 10)], True, False, 2])
 
     def test_not_fair(self):
         with self.assertRaises(NotFair) as caught:

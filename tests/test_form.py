@@ -6,7 +6,8 @@ from pathlib import Path
 
 PACKAGE = Path(__file__).resolve().parent.parent / "turnsleft"
 
-# for each file its functions, and its classes with their methods and properties; stars mark keyword-only parameters
+# for each file its functions, and its classes with their methods and properties; one star marks keyword-only
+# parameters, two stars one that takes any number of values
 INTERFACE = {
     "words": {
         "is_name": "value", "is_number": "value", "is_tone": "value", "tone_of": "over under", "tone_text": "tone",
@@ -65,6 +66,28 @@ INTERFACE = {
     "placing": {
         "shrunk": "turn *most", "turns_for": "wedge *low *high", "resolved": "exchange *low=None *high=None",
     },
+    "nearby": {"ratio_near": "bits most", "exchange_with": "top wedge *low=None *high=None"},
+    "readings": {
+        "Reading": {
+            "__init__": "weights *bits=(0, 0, 0, 0, 0, 0) *modulus=0", "weights": "", "bits": "", "__call__": "wedge",
+            "value_of": "exchange", "__add__": "other", "__eq__": "other", "__repr__": "",
+        },
+    },
+    "fitting": {"fitted": "samples *modulus"},
+    "lattices": {
+        "Lattice": {
+            "__init__": "width **vectors", "staircase": "", "counts_for": "vector", "bar": "vector", "spare": "",
+            "__contains__": "vector", "__eq__": "other", "__len__": "", "__repr__": "",
+        },
+    },
+    "told": {
+        "Told": {
+            "__init__": "**exchanges *commutators=False", "exchanges": "", "lattice": "", "makes": "exchange",
+            "counts_for": "exchange", "bar": "exchange", "done": "counts", "completed": "exchange", "spare": "",
+            "__eq__": "other", "__len__": "", "__repr__": "",
+        },
+    },
+    "folds": {"fold_for": "exchange"},
 }
 STATIC = ("of_powers", "read")
 PROPERTIES = {"wedges": "flat rank owed content", "exchanges": "wedge fair owed", "moves": "end wedge", "courses": "keeps product"}
@@ -75,6 +98,7 @@ def parameters(function):
     plain = function.args.args
     free = [None] * (len(plain) - len(function.args.defaults)) + function.args.defaults
     named = [(argument.arg, value) for argument, value in zip(plain, free)]
+    named += [("**" + argument.arg, None) for argument in [function.args.vararg] if argument is not None]
     named += [("*" + argument.arg, value) for argument, value in zip(function.args.kwonlyargs, function.args.kw_defaults)]
     words = [name if value is None else f"{name}={ast.unparse(value)}" for name, value in named]
     return " ".join(word for word in words if word != "self")

@@ -125,11 +125,11 @@ def still(top):
     return Exchange(top, [(Ratio(1), top, Ratio(1))])
 
 
-def _led_back(ratio, top):
+def led_back(ratio, top):
     """A ratio times the power of the top that leads it to where 1 <= it < top."""
     unit = Ratio(1)
     if ratio.below(unit):
-        back = _led_back(unit // ratio, top)
+        back = led_back(unit // ratio, top)
         return unit if back == unit else top // back
     powers = [top]
     while powers[-1].below(ratio):
@@ -147,7 +147,7 @@ def fold(top, by):
     if not is_ratio(by):
         raise BadRatio()
     unit = Ratio(1)
-    up = _led_back(by, top)
+    up = led_back(by, top)
     rows = [(unit, top // up, up), (top // up, up, up // top)]
     return Exchange(top, [row for row in rows if is_length(row[1])])
 

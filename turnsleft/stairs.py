@@ -63,14 +63,6 @@ def _settled(rows):
     return settled
 
 
-def staircase_of(vectors):
-    """The staircase of some vectors of one width, as a list of lists."""
-    stairs = []
-    for vector in vectors:
-        stairs = _settled(_with_vector(stairs, list(vector)))
-    return stairs
-
-
 def counts_on(stairs, vector):
     """How often each vector of a staircase goes into a sum of them, None for any other vector."""
     counts = []
@@ -80,3 +72,40 @@ def counts_on(stairs, vector):
         counts.append(times)
         vector = less(vector, times, row)
     return None if any(vector) else counts
+
+
+def staircase_of(vectors):
+    """The staircase of some vectors of one width, as a list of lists."""
+    stairs = []
+    for vector in vectors:
+        if counts_on(stairs, vector) is None:
+            stairs = _settled(_with_vector(stairs, list(vector)))
+    return stairs
+
+
+def needed_ones(vectors):
+    """The ascending indexes of the vectors that are no sums of whole multiples of the earlier ones."""
+    stairs = []
+    needed = []
+    for at, vector in enumerate(vectors):
+        if counts_on(stairs, vector) is None:
+            stairs = _settled(_with_vector(stairs, list(vector)))
+            needed.append(at)
+    return needed
+
+
+def traced_stairs(vectors, width):
+    """The staircase of vectors, and a base of all relations between them.
+
+    Behind the items of each row of the staircase stands how often each vector goes into it. A relation says
+    how often each vector goes into a sum of them that is 0.
+    """
+    many = len(vectors)
+    stairs = []
+    relations = []
+    for at, vector in enumerate(vectors):
+        traced = [*vector, *[1 if at == other else 0 for other in range(many)]]
+        rows = _settled(_with_vector(stairs, traced))
+        stairs = [row for row in rows if lead_of(row) < width]
+        relations.extend([row[width:] for row in rows if lead_of(row) >= width])
+    return stairs, relations
