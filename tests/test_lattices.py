@@ -6,7 +6,7 @@ import unittest
 from tests.samples import any_values
 from turnsleft.errors import BadNumber, BadRow, NotIn
 from turnsleft.lattices import Lattice
-from turnsleft.shortening import shortened
+from turnsleft.shortening import short_beside, shortened
 from turnsleft.stairs import needed_ones, traced_stairs
 
 
@@ -162,6 +162,18 @@ class CountsTest(unittest.TestCase):
             self.assertEqual(Lattice(width, *rows), Lattice(width, *vectors))
             self.assertLessEqual(sum(times(row, row) for row in rows), sum(times(row, row) for row in vectors))
         self.assertEqual(shortened([]), ([], []))
+
+    def test_hidden_short_rows(self):
+        rng = random.Random(7)
+        for many in (2, 4, 7):
+            short = [[rng.randint(-1, 1) for _ in range(many)] + [9 if at == own else 0 for at in range(many)]
+                     for own in range(many)]
+            rows = [list(row) for row in Lattice(2 * many, *short).staircase()]
+            found, _ = shortened(rows)
+            self.assertEqual(Lattice(2 * many, *found), Lattice(2 * many, *short))
+            self.assertLessEqual(max(times(row, row) for row in found), 4 * (81 + many))
+            counts = [rng.randint(-500, 500) for _ in range(2 * many)]
+            self.assertLessEqual(times(short_beside(counts, rows), short_beside(counts, rows)), times(counts, counts))
 
     def test_traced(self):
         rng = random.Random(5)

@@ -3,10 +3,23 @@
 import random
 import unittest
 
-from turnsleft.stairs import counts_on, lead_of, staircase_of
+from turnsleft.stairs import counts_on, lead_of, nearest, needed_ones, staircase_of
 
 
 class StairsTest(unittest.TestCase):
+    def test_nearest(self):
+        for divisor in (1, 2, 3, 4, 7, -1, -2, -5, -6):
+            for number in range(-30, 31):
+                found = nearest(number, divisor)
+                self.assertLessEqual(2 * abs(number - found * divisor), abs(divisor))
+                if 2 * abs(number - found * divisor) == abs(divisor):
+                    self.assertLess(2 * abs(found * divisor), 2 * abs(number))
+
+    def test_needed(self):
+        self.assertEqual(needed_ones([]), [])
+        self.assertEqual(needed_ones([(4, 0), (8, 0), (6, 0), (2, 0), (0, 1), (2, 5)]), [0, 2, 4])
+        self.assertEqual(needed_ones([(0, 0), (1, 1)]), [1])
+
     def test_small(self):
         self.assertEqual(staircase_of([]), [])
         self.assertEqual(staircase_of([(0, 0)]), [])

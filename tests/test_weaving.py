@@ -26,12 +26,16 @@ class KeysTest(unittest.TestCase):
         self.assertEqual(key_of(ONE), 0)
 
     def test_next_to_each_other(self):
-        # convergents of log 3 / log 2; with great powers their products come so near to 1 that the powers decide
-        pairs = [(1, 0), (2, 1), (19, 12), (65, 41), (84, 53), (485, 306), (1054, 665), (24727, 15601)]
-        for two, three in pairs:
-            ratio = ratio_with([two, -three, 0, 0, 0, 0])
+        # these products are so near to 1 that logarithms do not tell them from it, and the powers decide
+        near = [
+            [340936, 58154, 199627, 941901, 478896, -1404586], [-743971, -376795, -299736, 109155, 45330, 425325],
+            [-598553, 439413, -422629, 28865, 263496, -29501],
+        ]
+        for powers in near + [[2, -1, 0, 0, 0, 0], [-19, 12, 0, 0, 0, 0], [24727, -15601, 0, 0, 0, 0]]:
+            ratio = ratio_with(powers)
             self.assertIs(is_below(0, key_of(ratio)), ONE.below(ratio))
             self.assertIs(is_below(key_of(ratio), 0), ratio.below(ONE))
+            self.assertIs(is_below(key_of(ratio) + 5, key_of(ratio) + 5), False)
 
 
 class PiecesTest(unittest.TestCase):

@@ -10,8 +10,9 @@ from turnsleft.stairs import counts_on, lead_of, less, needed_ones, staircase_of
 from turnsleft.words import are_numbers, is_number
 
 MOST_WIDTH = 24
-# of more vectors, only those that are needed are counted
+# of more vectors only those are counted that are needed, and with greater numbers counts stay as they are found
 MANY = 32
+GREAT = 1000000000000
 
 
 class Lattice:
@@ -40,7 +41,7 @@ class Lattice:
         needed = list(range(len(self._vectors)))
         if len(needed) > MANY:
             needed = needed_ones(self._vectors)
-        found = _short_counts([self._vectors[at] for at in needed], vector)
+        found = _counts_of([self._vectors[at] for at in needed], vector)
         counts = [0] * len(self._vectors)
         for at, count in zip(needed, found):
             counts[at] = count
@@ -115,11 +116,12 @@ def _bar_at(stairs, width, lead, modulus):
     return tuple([weight // shared % modulus for weight in weights]), modulus
 
 
-def _short_counts(vectors, vector):
-    """Counts, made short by the relations between vectors, of a sum of them that is a vector."""
+def _counts_of(vectors, vector):
+    """Counts of vectors in a sum of them that is a vector; short ones, where the numbers are not too great."""
     width = len(vector)
     stairs, relations = traced_stairs(vectors, width)
     counts = [0] * len(vectors)
     for row, times in zip(stairs, counts_on([row[:width] for row in stairs], vector)):
         counts = less(counts, -times, row[width:])
-    return short_beside(counts, relations)
+    greatest = max([abs(item) for own in vectors for item in own], default=0)
+    return short_beside(counts, relations) if greatest < GREAT else counts

@@ -8,6 +8,7 @@ from turnsleft.words import are_numbers, is_number, read_tone, tone_text
 PRIMES = (2, 3, 5, 7, 11, 13)
 MOST_POWER = 9999
 MANY = 500
+NO_POWERS = (0, 0, 0, 0, 0, 0)
 
 
 class Ratio:
@@ -19,9 +20,7 @@ class Ratio:
         shared = gcd(over, under)
         self.over = over // shared
         self.under = under // shared
-        ups = _powers_in(self.over)
-        downs = _powers_in(self.under)
-        self._powers = tuple([up - down for up, down in zip(ups, downs)])
+        self._powers = _powers_of(self.over, self.under)
 
     @staticmethod
     def of_powers(powers):
@@ -97,13 +96,9 @@ def _raised(base, exponent):
 
 
 def _made_of(powers):
-    """The product of the primes, each as often as powers from 0 on say."""
+    """The product of the primes, each as often as great powers from 0 on say."""
     number = 1
-    if max(powers) < MANY:
-        for prime, power in zip(PRIMES, powers):
-            number = number * _raised(prime, power)
-        return number
-    # great numbers are squared once for all primes together, and 2 needs no multiplication at all
+    # the number is squared once for all primes together, and 2 needs no multiplication at all
     for at in reversed(range(max(powers).bit_length())):
         number = number * number
         for prime, power in zip(PRIMES[1:], powers[1:]):
@@ -112,12 +107,27 @@ def _made_of(powers):
     return number << powers[0]
 
 
+def _fraction_of(powers):
+    """The numerator and the denominator in lowest terms, from the powers."""
+    if max(powers) > MANY or min(powers) < -MANY:
+        return _made_of([max(0, power) for power in powers]), _made_of([max(0, -power) for power in powers])
+    over = 1
+    under = 1
+    for prime, power in zip(PRIMES, powers):
+        if power > 0:
+            over = over * _raised(prime, power)
+        elif power < 0:
+            under = under * _raised(prime, -power)
+    return over, under
+
+
 def ratio_with(powers):
     """The ratio with these powers, however great they are."""
     # the powers are known, so they need not be sought in the numbers
+    over, under = _fraction_of(powers)
     ratio = Ratio(1)
-    ratio.over = _made_of([power if power > 0 else 0 for power in powers])
-    ratio.under = _made_of([-power if power < 0 else 0 for power in powers])
+    ratio.over = over
+    ratio.under = under
     ratio._powers = tuple(powers)
     return ratio
 
@@ -146,6 +156,13 @@ def _powers_in(number):
     if number != 1:
         raise BadRatio()
     return powers
+
+
+def _powers_of(over, under):
+    """The powers of a fraction in lowest terms."""
+    if over == 1 and under == 1:
+        return NO_POWERS
+    return tuple([up - down for up, down in zip(_powers_in(over), _powers_in(under))])
 
 
 def is_ratio(value):

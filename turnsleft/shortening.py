@@ -26,7 +26,7 @@ def _parts_of(rows, parts, vector):
 def _lessened(rows, parts, vector):
     """A vector less multiples of rows, from the last row on, so that it has little of each; and its parts."""
     own = _parts_of(rows, parts, vector)
-    for at in range(len(rows))[::-1]:
+    for at in reversed(range(len(rows))):
         times = nearest(own[at], parts[at][at])
         vector = less(vector, times, rows[at])
         own = [*less(own[:at + 1], times, parts[at]), *own[at + 1:]]
