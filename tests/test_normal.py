@@ -5,8 +5,9 @@ import unittest
 from itertools import combinations
 from math import gcd
 
-from tests.samples import ONE, some_exchange, some_ratio
+from tests.samples import ONE, some_exchange, some_length, some_ratio
 from turnsleft.matrices import determinant
+from turnsleft.moves import arranged
 from turnsleft.normal import anchor_of, divisors, normal_sum
 from turnsleft.ratios import PRIMES, Ratio, is_length
 from turnsleft.relations import is_base_part
@@ -36,6 +37,9 @@ def some_wedges(rng):
     for turns in (1, 2, 3):
         wedges.extend(of_rank(rng, turns) for _ in range(5))
     wedges.extend(some_exchange(rng, 5).wedge for _ in range(5))
+    # numbers without a common divisor, of which each two have one
+    for numbers in [(6, 10, 15), (6, 10, 0), (0, 15, 10), (2, 2, 3), (30, 42, 70), (-6, 10, -15), (105, 70, 42)]:
+        wedges.append(Wedge([numbers[0]] + [0] * 8 + [numbers[1]] + [0] * 4 + [numbers[2]]))
     wedges.append(Wedge([120] * 15))
     wedges.append(Wedge([-120, 120] * 7 + [119]))
     return wedges
@@ -80,6 +84,12 @@ class NormalTest(unittest.TestCase):
         rng = random.Random(1)
         for wedge in some_wedges(rng):
             self.check(wedge)
+
+    def test_exchanges_with_great_powers(self):
+        rng = random.Random(4)
+        for most in (5, 15, 40):
+            exchange = arranged([some_length(rng, most) for _ in range(6)], [3, 5, 1, 0, 4, 2])
+            self.check(exchange.wedge)
 
     def test_flat(self):
         for wedge in (nothing(), Wedge([0] * 15, [1] * 6), wedge_of(Ratio(9, 8), Ratio(9, 8))):

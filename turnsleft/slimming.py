@@ -60,17 +60,3 @@ def slimmed(items):
     while _round(vectors, numbers):
         pass
     return [(number, vectors[2 * at], vectors[2 * at + 1]) for at, number in enumerate(numbers)]
-
-
-def _size_of(items):
-    """The sum of the squares of all vectors of a sum."""
-    return sum([dot(u, u) + dot(v, v) for _, u, v in items])
-
-
-def shortest(tries):
-    """The first of some sums whose vectors are shortest together."""
-    best = tries[0]
-    for items in tries:
-        if _size_of(items) < _size_of(best):
-            best = items
-    return best

@@ -132,7 +132,7 @@ def square_at(wedge, primes):
     return [[matrix[p][q] for q in places] for p in places]
 
 
-def _pfaffian_of(square, places):
+def pfaffian_of(square, places):
     """The Pfaffian at the rows and columns with these indexes."""
     if not places:
         return 1
@@ -142,11 +142,11 @@ def _pfaffian_of(square, places):
     sign = 1
     for at in range(1, len(places)):
         left = places[1:at] + places[at + 1:]
-        total = total + sign * square[places[0]][places[at]] * _pfaffian_of(square, left)
+        total = total + sign * square[places[0]][places[at]] * pfaffian_of(square, left)
         sign = -sign
     return total
 
 
 def pfaffian(wedge, primes):
     """The Pfaffian of a wedge at a list of different ascending primes."""
-    return _pfaffian_of(square_at(wedge, primes), list(range(len(primes))))
+    return pfaffian_of(square_at(wedge, primes), list(range(len(primes))))
