@@ -5,7 +5,8 @@ step by step: one part is divided by another one, and the exponents follow. In t
 0 come to an end. At last, parts are put together again where they only occur together.
 """
 
-from turnsleft.keys import LOGS, dot
+from turnsleft.keys import dot
+from turnsleft.logs import log_of
 from turnsleft.ratios import in_order, is_length, ratio_with
 from turnsleft.relations import is_loose, shared_by
 from turnsleft.stairs import counts_on, less, nearest, staircase_of
@@ -48,7 +49,7 @@ def _facing(counts, one, other):
 def _best_step(parts, counts):
     """The division that takes most away from what stands below 0, with how many times it may be done."""
     ratios = [ratio_with(part) for part in parts]
-    sizes = [max(1, dot(part, LOGS)) for part in parts]
+    sizes = [max(1, log_of(part)) for part in parts]
     best = (0, 0, 0, 0)
     for one in range(len(parts)):
         for other in range(len(parts)):

@@ -1,12 +1,12 @@
 """Courses: swaps that are done one after another on a line with some room behind it."""
 
 from turnsleft.errors import BadRoom, BadSwap, BadTop, NotKept, NotOnLine, OtherLine
-from turnsleft.exchanges import Exchange
+from turnsleft.exchanges import Exchange, filling
 from turnsleft.keys import key_of, ratio_at
-from turnsleft.moves import Swap
+from turnsleft.moves import Swap, swap_with
 from turnsleft.pieces import swapped
 from turnsleft.ratios import Ratio, is_length, is_ratio, multiplied
-from turnsleft.stretches import cut_to
+from turnsleft.stretches import cut_to, in_rows_order
 from turnsleft.tones import led, within
 from turnsleft.words import is_listed, is_tone
 
@@ -49,14 +49,14 @@ class Course:
 
     def wide(self):
         """The exchange of the wide line."""
-        return Exchange(self.room, _wide_rows(self.room, self._swaps))
+        return filling(self.room, in_rows_order(_wide_rows(self.room, self._swaps)))
 
     def made(self):
         """The exchange that the course makes."""
         rows = self.wide().rows()
         if not _stays_behind(rows, self.top):
             raise NotKept()
-        return Exchange(self.top, cut_to(rows, Ratio(1), self.top))
+        return filling(self.top, cut_to(rows, Ratio(1), self.top))
 
     def walk(self, tone):
         """Where a tone of the wide line stands behind each swap."""
@@ -114,6 +114,18 @@ class Course:
 
     def __repr__(self):
         return f"Course({len(self._swaps)} swaps)"
+
+
+def swaps_at(keys):
+    """The swaps with keys (first, second, length) of stretches that are known to lie apart."""
+    return [swap_with(ratio_at(first), ratio_at(second), ratio_at(length)) for first, second, length in keys]
+
+
+def course_with(top, swaps, room):
+    """The course with swaps whose ends are known to be at most the room, so that nothing is left to check."""
+    course = Course(top, [], room=room)
+    course._swaps = swaps
+    return course
 
 
 def _wide_rows(room, swaps):

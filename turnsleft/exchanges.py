@@ -1,13 +1,12 @@
 """Exchanges of a line: rows that fill it, and whose images fill it again."""
 
-from turnsleft.errors import BadText, BadTop, NotOnLine, OffLine, OtherLine, TurnError
+from turnsleft.errors import BadText, NotOnLine, OffLine, OtherLine, TurnError
 from turnsleft.ratios import Ratio, is_length, is_ratio, order_of
 from turnsleft.stretches import (
-    check_apart, check_filled, check_on_line, check_rows, cut_to, images_of, in_rows_order, joined_rows,
-    joined_stretches, lies_within,
+    check_filled, check_partly, cut_to, images_of, in_rows_order, joined_rows, joined_stretches, lies_within, row_at,
 )
 from turnsleft.sums import pair_sum
-from turnsleft.tones import compared, led, within
+from turnsleft.tones import led, within
 from turnsleft.words import is_tone
 
 
@@ -15,11 +14,7 @@ class Exchange:
     """An exchange in its plain form."""
 
     def __init__(self, top, rows):
-        if not is_length(top):
-            raise BadTop()
-        check_rows(rows)
-        check_on_line(rows, top)
-        check_apart(rows)
+        check_partly(top, rows)
         check_filled([length for _, length, _ in rows], top)
         self.top = top
         self._rows = joined_rows(in_rows_order(rows))
@@ -57,15 +52,8 @@ class Exchange:
     def __call__(self, tone):
         if not is_tone(tone) or not within(tone, Ratio(1), self.top):
             raise NotOnLine(tone)
-        low = 0
-        high = len(self._rows)
-        while high - low > 1:
-            middle = (low + high) // 2
-            if compared(tone, self._rows[middle][0]) < 0:
-                high = middle
-            else:
-                low = middle
-        return led(tone, self._rows[low][2])
+        _, _, factor = row_at(self._rows, tone)
+        return led(tone, factor)
 
     def walk(self, tone, many):
         """The images of a tone by the exchange done 1, 2, .., many times."""
@@ -117,12 +105,12 @@ class Exchange:
         for start, length, factor in self._rows:
             for place, part, behind in cut_to(other._rows, start * factor, length):
                 rows.append((place // factor, part, factor * behind))
-        return _filling(self.top, rows)
+        return filling(self.top, rows)
 
     def __invert__(self):
         unit = Ratio(1)
         rows = [(start * factor, length, unit // factor) for start, length, factor in self._rows]
-        return _filling(self.top, in_rows_order(rows))
+        return filling(self.top, in_rows_order(rows))
 
     def __eq__(self, other):
         return isinstance(other, Exchange) and self.top == other.top and self._rows == other._rows
@@ -137,7 +125,7 @@ class Exchange:
         return f"Exchange({len(self._rows)} rows)"
 
 
-def _filling(top, rows):
+def filling(top, rows):
     """The exchange with ascending rows that are known to fill the line, so that nothing is left to check."""
     exchange = Exchange(top, [(Ratio(1), top, Ratio(1))])
     exchange._rows = joined_rows(rows)

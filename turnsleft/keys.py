@@ -4,17 +4,8 @@ A key has the logarithm of the ratio ahead and its powers behind, so that keys a
 of great numerators and denominators. Where two keys are next to each other, the powers decide.
 """
 
+from turnsleft.logs import log_of
 from turnsleft.ratios import PRIMES, is_length, ratio_with
-
-# the logarithms of the primes, times ten to the 50th
-LOGS = (
-    69314718055994530941723212145817656807550013436025,
-    109861228866810969139524523692252570464749055782274,
-    160943791243410037460075933322618763952560135426851,
-    194591014905531330510535274344317972963708472958186,
-    239789527279837054406194357796512929982170685393741,
-    256494935746153673605348744156531860480526794476020,
-)
 
 BASE = 18446744073709551616
 HALF = 9223372036854775808
@@ -35,7 +26,7 @@ def key_of(ratio):
     packed = 0
     for power in powers[::-1]:
         packed = packed * BASE + power
-    return (dot(powers, LOGS) << BEHIND) + packed
+    return (log_of(powers) << BEHIND) + packed
 
 
 def ratio_at(key):

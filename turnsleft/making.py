@@ -6,10 +6,9 @@ order; then each piece is led to its place among equal letters.
 """
 
 from turnsleft.atoms import atom_counts
-from turnsleft.courses import Course
+from turnsleft.courses import course_with, swaps_at
 from turnsleft.errors import NotFair, OtherLine
 from turnsleft.keys import dot, key_of, ratio_at
-from turnsleft.moves import Swap
 from turnsleft.peeling import peeled
 from turnsleft.pieces import settling_swaps, swapped
 from turnsleft.ratios import PRIMES, order_of
@@ -79,8 +78,7 @@ def course_for(exchange):
     ranks = {at: rank for rank, at in enumerate(order)}
     at_home = [(pieces[at][2], pieces[at][1], pieces[at][0]) for at in order]
     room, swaps = _woven(at_home, [ranks[at] for at in range(len(order))], key_of(exchange.top))
-    told = [Swap(ratio_at(first), ratio_at(second), ratio_at(length)) for first, second, length in swaps + last[::-1]]
-    return Course(exchange.top, told, room=ratio_at(room))
+    return course_with(exchange.top, swaps_at(swaps + last[::-1]), ratio_at(room))
 
 
 def course_between(e, f):

@@ -3,11 +3,12 @@
 from turnsleft.errors import BadLength, BadOrder, BadRatio, BadStart, BadTop, Meet, OffLine
 from turnsleft.exchanges import Exchange
 from turnsleft.ratios import Ratio, is_length, is_ratio, multiplied
+from turnsleft.stretches import gaps_between
 from turnsleft.wedges import PAIRS, Wedge, wedge_of
 from turnsleft.words import is_listed, is_number
 
 
-def _is_start(value):
+def is_start(value):
     """Whether any value is a ratio from 1 on."""
     return is_ratio(value) and not value.below(Ratio(1))
 
@@ -26,7 +27,7 @@ class Turn:
     """Two neighbours laid the other way round."""
 
     def __init__(self, start, first, second):
-        if not _is_start(start):
+        if not is_start(start):
             raise BadStart()
         if not is_length(first):
             raise BadLength(0)
@@ -46,12 +47,13 @@ class Turn:
         """The wedge of the two lengths."""
         return wedge_of(self.first, self.second)
 
+    def rows(self):
+        """The rows of the two stretches."""
+        return [(self.start, self.first, self.second), (self.start * self.first, self.second, Ratio(1) // self.first)]
+
     def on(self, top):
         """The exchange of the line."""
-        unit = Ratio(1)
-        lower = (self.start, self.first, self.second)
-        upper = (self.start * self.first, self.second, unit // self.first)
-        return _moved(top, self.end, [(unit, self.start, unit), lower, upper])
+        return _moved(top, self.end, [(Ratio(1), self.start, Ratio(1)), *self.rows()])
 
     def smaller(self):
         """The swap and the smaller turn that are the turn, None if the lengths are equal."""
@@ -78,7 +80,7 @@ class Swap:
     """Two stretches of one length exchanged."""
 
     def __init__(self, first, second, length):
-        if not _is_start(first) or not _is_start(second):
+        if not is_start(first) or not is_start(second):
             raise BadStart()
         if not is_length(length):
             raise BadLength(0)
@@ -120,9 +122,28 @@ class Swap:
         return f"Swap({self.first.text()}, {self.second.text()}, {self.length.text()})"
 
 
+def swap_with(first, second, length):
+    """The swap of two stretches that are known to lie apart, so that no great numbers are to be compared."""
+    swap = Swap(Ratio(1), length, length)
+    swap.first = first
+    swap.second = second
+    return swap
+
+
 def still(top):
     """The exchange of a line that stays."""
     return Exchange(top, [(Ratio(1), top, Ratio(1))])
+
+
+def apart_on(top, turns):
+    """The exchange of a line by turns that stand apart in ascending order."""
+    rows = []
+    taken = []
+    for turn in turns:
+        rows.extend(turn.rows())
+        taken.append((turn.start, turn.first * turn.second))
+    rows.extend([(start, length, Ratio(1)) for start, length in gaps_between(taken, top)])
+    return Exchange(top, rows)
 
 
 def led_back(ratio, top):

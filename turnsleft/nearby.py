@@ -2,10 +2,9 @@
 
 from turnsleft.errors import BadTop
 from turnsleft.keys import is_below, key_of, ratio_at
-from turnsleft.moves import Swap, still
+from turnsleft.moves import Swap, apart_on
 from turnsleft.placing import turns_for, window_of
 from turnsleft.ratios import Ratio, is_length, ratio_with
-from turnsleft.wedges import nothing
 
 
 def _key_near(bits, room, many):
@@ -36,12 +35,12 @@ def exchange_with(top, wedge, *, low=None, high=None):
     if not is_length(top):
         raise BadTop()
     low, high = window_of(top, low, high)
-    done = still(top)
-    total = nothing()
-    for turn in turns_for(wedge, low=low, high=high):
-        done = done >> turn.on(top)
-        total = total + turn.wedge
-    bits = (wedge - total).bits()
+    turns = turns_for(wedge, low=low, high=high)
+    done = apart_on(top, turns)
+    left = wedge
+    for turn in turns:
+        left = left - turn.wedge
+    bits = left.bits()
     if any(bits):
         length = ratio_at(_key_near(bits, key_of(high) - key_of(low), 2))
         done = done >> Swap(low, low * length, length).on(top)

@@ -3,7 +3,8 @@
 from itertools import combinations
 from math import isqrt
 
-from turnsleft.keys import LOGS, dot
+from turnsleft.keys import dot
+from turnsleft.logs import log_of
 from turnsleft.matrices import determinant
 from turnsleft.ratios import PRIMES, Ratio, ratio_with
 from turnsleft.slimming import slimmed
@@ -89,8 +90,8 @@ def _single_sums(numbers):
 
 def reach_of(u, v):
     """How great the powers of two ratios grow that have the wedge of two vectors, the nearer to 1 the more."""
-    one = dot(u, LOGS)
-    other = dot(v, LOGS)
+    one = log_of(u)
+    other = log_of(v)
     grown = [one * item - other * own for own, item in zip(u, v)]
     return isqrt(dot(grown, grown))
 

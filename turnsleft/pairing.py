@@ -1,10 +1,10 @@
 """Paired courses: courses in which each length occurs an even number of times."""
 
 from turnsleft.atoms import atom_counts
-from turnsleft.courses import Course
+from turnsleft.courses import course_with
 from turnsleft.errors import Odd
 from turnsleft.making import check_fair, course_for
-from turnsleft.moves import Swap
+from turnsleft.moves import swap_with
 from turnsleft.ratios import PRIMES, Ratio, multiplied, ratio_with
 
 
@@ -56,7 +56,7 @@ def _cut_swap(swap, lengths):
     swaps = []
     done = Ratio(1)
     for length in lengths:
-        swaps.append(Swap(swap.first * done, swap.second * done, length))
+        swaps.append(swap_with(swap.first * done, swap.second * done, length))
         done = done * length
     return swaps
 
@@ -88,4 +88,4 @@ def paired_course(exchange):
         if bit == 1:
             raise Odd(prime)
     course = course_for(exchange)
-    return Course(course.top, _paired(course.swaps()), room=course.room)
+    return course_with(course.top, _paired(course.swaps()), course.room)

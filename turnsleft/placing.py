@@ -1,11 +1,11 @@
 """Turns made small and put into windows, and exchanges resolved into a course and turns."""
 
-from turnsleft.courses import Course
+from turnsleft.courses import course_with, swaps_at
 from turnsleft.errors import BadLength, BadWindow, Level, TooLong
 from turnsleft.exchanges import Exchange
 from turnsleft.keys import is_below, key_of, ratio_at
 from turnsleft.making import course_for
-from turnsleft.moves import Swap, Turn
+from turnsleft.moves import Turn
 from turnsleft.normal import as_lengths, reach_of, turned_vectors
 from turnsleft.ratios import Ratio, is_length, is_ratio, ratio_with
 
@@ -28,7 +28,7 @@ def shrunk(turn, *, most):
     return swaps, turn
 
 
-def _is_window(low, high):
+def is_window(low, high):
     """Whether two values tell a window of some line."""
     return is_ratio(low) and is_ratio(high) and not low.below(Ratio(1)) and low.below(high)
 
@@ -37,7 +37,7 @@ def window_of(top, low, high):
     """The pair (low, high) of a window of a line, where None stands for 1 and for the top."""
     low = Ratio(1) if low is None else low
     high = top if high is None else high
-    if not _is_window(low, high) or top.below(high):
+    if not is_window(low, high) or top.below(high):
         raise BadWindow()
     return low, high
 
@@ -100,7 +100,7 @@ def _turns_at(placed):
 
 def turns_for(wedge, *, low, high):
     """Turns within a window, side by side, whose wedges have the sum of the table of a wedge."""
-    if not _is_window(low, high):
+    if not is_window(low, high):
         raise BadWindow()
     return _turns_at(_placed(_made_small(wedge, low, high), low))
 
@@ -146,5 +146,4 @@ def resolved(exchange, *, low=None, high=None):
         smaller, small = _small_turn((start, first, second), room, many)
         swaps.extend(smaller + _led_into(small, own))
         start = start + first + second
-    told = [Swap(ratio_at(first), ratio_at(second), ratio_at(length)) for first, second, length in swaps]
-    return Course(exchange.top, [*course.swaps(), *told], room=course.room), _turns_at(placed)
+    return course_with(exchange.top, course.swaps() + swaps_at(swaps), course.room), _turns_at(placed)

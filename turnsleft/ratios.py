@@ -3,6 +3,7 @@
 from math import gcd, lcm
 
 from turnsleft.errors import BadRatio, BadText
+from turnsleft.logs import SLACK, log_of
 from turnsleft.words import are_numbers, is_number, read_tone, tone_text
 
 PRIMES = (2, 3, 5, 7, 11, 13)
@@ -56,6 +57,11 @@ class Ratio:
 
     def below(self, other):
         """Whether it is less than another ratio."""
+        if self.over.bit_length() + other.over.bit_length() > MANY:
+            # great products are made only where the logarithms are too near to one another
+            more = log_of(other._powers) - log_of(self._powers)
+            if abs(more) > SLACK or self._powers == other._powers:
+                return more > 0
         return self.over * other.under < other.over * self.under
 
     def as_tone(self):
@@ -183,13 +189,24 @@ def multiplied(ratios):
     return ratio_with(powers)
 
 
-def order_of(ratios):
-    """The indexes of a list of ratios, in the ascending order of the ratios."""
+def _exact_order(ratios):
+    """The indexes of a list of ratios in ascending order, told by their numerators over a common denominator."""
     shared = 1
     for ratio in ratios:
         shared = lcm(shared, ratio.under)
     keyed = [(ratio.over * (shared // ratio.under), at) for at, ratio in enumerate(ratios)]
     return [at for _, at in sorted(keyed)]
+
+
+def order_of(ratios):
+    """The indexes of a list of ratios, in the ascending order of the ratios."""
+    logs = [log_of(ratio.powers()) for ratio in ratios]
+    keyed = sorted([(log, at) for at, log in enumerate(logs)])
+    order = [at for _, at in keyed]
+    for at, above in zip(order, order[1:]):
+        if logs[above] - logs[at] <= SLACK and ratios[at] != ratios[above]:
+            return _exact_order(ratios)
+    return order
 
 
 def in_order(ratios):

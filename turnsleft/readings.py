@@ -30,12 +30,11 @@ class Reading:
         return self._bits
 
     def __call__(self, wedge):
-        value = dot(self._weights, wedge.pairs()) + self.modulus // 2 * dot(self._bits, wedge.bits())
-        return value if self.modulus == 0 else value % self.modulus
+        return _value_on(self, wedge)
 
     def value_of(self, exchange):
         """The value of the wedge of an exchange."""
-        return self(exchange.wedge)
+        return _value_on(self, exchange.wedge)
 
     def __add__(self, other):
         if self.modulus != other.modulus:
@@ -51,3 +50,9 @@ class Reading:
 
     def __repr__(self):
         return f"Reading(modulus {self.modulus})"
+
+
+def _value_on(reading, wedge):
+    """The value of a wedge."""
+    value = dot(reading._weights, wedge.pairs()) + reading.modulus // 2 * dot(reading._bits, wedge.bits())
+    return value if reading.modulus == 0 else value % reading.modulus

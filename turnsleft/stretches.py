@@ -3,8 +3,9 @@
 A stretch is a tuple (start, length), a row a tuple (start, length, factor).
 """
 
-from turnsleft.errors import BadRow, NotFilled, OffLine, Overlap
+from turnsleft.errors import BadRow, BadTop, NotFilled, OffLine, Overlap
 from turnsleft.ratios import Ratio, is_length, is_ratio, multiplied, order_of
+from turnsleft.tones import compared
 from turnsleft.words import is_listed
 
 
@@ -81,6 +82,15 @@ def check_apart(rows):
         raise Overlap(one, other)
 
 
+def check_partly(top, rows):
+    """Raise what is wrong with a top, or with rows that may leave some of the line free."""
+    if not is_length(top):
+        raise BadTop()
+    check_rows(rows)
+    check_on_line(rows, top)
+    check_apart(rows)
+
+
 def check_filled(lengths, top):
     """Raise NotFilled unless the product of the lengths is the top."""
     missing = top // multiplied(lengths)
@@ -112,6 +122,32 @@ def joined_stretches(stretches):
                 continue
         joined.append((start, length))
     return joined
+
+
+def gaps_between(stretches, top):
+    """The longest stretches of a line that ascending stretches leave free."""
+    gaps = []
+    end = Ratio(1)
+    for start, length in stretches:
+        if end.below(start):
+            gaps.append((end, start // end))
+        end = start * length
+    if end.below(top):
+        gaps.append((end, top // end))
+    return gaps
+
+
+def row_at(rows, tone):
+    """The row that a tone lies in, of ascending rows that fill the line."""
+    low = 0
+    high = len(rows)
+    while high - low > 1:
+        middle = (low + high) // 2
+        if compared(tone, rows[middle][0]) < 0:
+            high = middle
+        else:
+            low = middle
+    return rows[low]
 
 
 def place_among(rows, start):
