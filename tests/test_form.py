@@ -88,9 +88,71 @@ INTERFACE = {
         },
     },
     "folds": {"fold_for": "exchange"},
+    "roots": {"root": "exchange k", "root_numbers": "exchange"},
+    "partials": {
+        "Partial": {
+            "__init__": "top rows", "rows": "", "gaps": "", "whole": "", "kept_by": "exchange",
+            "with_row": "start length factor", "completed": "*wedge=None", "__eq__": "other", "__len__": "", "__repr__": "",
+        },
+    },
+    "paintings": {
+        "Painting": {
+            "__init__": "top stripes", "stripes": "", "colour": "tone", "amounts": "", "after": "exchange",
+            "course_to": "other", "__eq__": "other", "__len__": "", "__repr__": "",
+        },
+    },
+    "scales": {
+        "Scale": {
+            "__init__": "**steps", "steps": "", "beginnings": "", "mode": "k", "led_to": "other", "crossings": "other",
+            "__eq__": "other", "__len__": "", "__repr__": "",
+        },
+    },
+    "windows": {
+        "Window": {
+            "__init__": "exchange *low *high", "towers": "", "floors": "", "first_return": "tone", "seen": "", "shift": "",
+            "rest": "", "alone": "", "__len__": "", "__repr__": "",
+        },
+    },
+    "threes": {"three_turned": "a b c"},
+    "lines": {
+        "Lines": {
+            "__init__": "**stretches", "stretches": "", "place": "tone", "back": "tone", "joined": "rows",
+            "parted": "exchange", "moved": "starts", "__eq__": "other", "__len__": "", "__repr__": "",
+        },
+    },
+    "mirrors": {
+        "Mirrored": {
+            "__init__": "top rows", "rows": "", "plain": "exchange", "__call__": "tone", "__rshift__": "other",
+            "__invert__": "", "parity": "", "__eq__": "other", "__len__": "", "__repr__": "",
+        },
+        "mirror": "top start length", "three_mirrors": "top turn", "parities_added": "one other",
+    },
+    "papers": {
+        "Paper": {},
+        "FairPaper": {"__init__": "exchange course", "fault": "", "holds": ""},
+        "UnfairPaper": {"__init__": "exchange other first second", "fault": "", "holds": ""},
+        "TurnsPaper": {"__init__": "exchange course turns primes", "fault": "", "holds": ""},
+        "MadePaper": {"__init__": "told exchange counts", "fault": "", "holds": ""},
+        "BarredPaper": {"__init__": "told exchange reading", "fault": "", "holds": ""},
+        "RootPaper": {"__init__": "exchange many root course", "fault": "", "holds": ""},
+    },
+    "judging": {"look": "**papers", "first_fault": "**papers"},
+    "owing": {"owed_after": "**exchanges"},
+    "bench": {
+        "Bench": {
+            "__init__": "", "do": "**deeds", "undo": "", "redo": "", "history": "", "journal": "", "played": "deeds",
+            "limit": "", "together": "", "busy": "", "names": "", "exchange_of": "name", "owed_by": "name",
+            "same": "one other", "tried": "**deeds", "text": "", "say": "line", "__call__": "line", "twin": "",
+            "__contains__": "name", "__eq__": "other", "__len__": "", "__repr__": "",
+        },
+    },
+    "benchtexts": {"write_bench": "bench", "read_bench": "text"},
 }
-STATIC = ("of_powers", "read")
-PROPERTIES = {"wedges": "flat rank owed content", "exchanges": "wedge fair owed", "moves": "end wedge", "courses": "keeps product"}
+STATIC = ("of_powers", "read", "plain", "played")
+PROPERTIES = {
+    "wedges": "flat rank owed content", "exchanges": "wedge fair owed", "moves": "end wedge", "courses": "keeps product",
+    "partials": "whole", "mirrors": "parity", "papers": "holds", "bench": "limit together busy",
+}
 
 
 def parameters(function):
@@ -99,7 +161,8 @@ def parameters(function):
     free = [None] * (len(plain) - len(function.args.defaults)) + function.args.defaults
     named = [(argument.arg, value) for argument, value in zip(plain, free)]
     named += [("**" + argument.arg, None) for argument in [function.args.vararg] if argument is not None]
-    named += [("*" + argument.arg, value) for argument, value in zip(function.args.kwonlyargs, function.args.kw_defaults)]
+    kept = zip(function.args.kwonlyargs, function.args.kw_defaults)
+    named += [("*" + argument.arg, value) for argument, value in kept]
     words = [name if value is None else f"{name}={ast.unparse(value)}" for name, value in named]
     return " ".join(word for word in words if word != "self")
 

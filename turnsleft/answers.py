@@ -1,0 +1,97 @@
+"""What a bench answers to strings of words."""
+
+from turnsleft.errors import NotOnLine
+from turnsleft.roots import root_numbers
+from turnsleft.words import read_tone, tone_text
+
+
+def _spaced(words):
+    """Some words with spaces between, `none` without any."""
+    return " ".join(words) if words else "none"
+
+
+def _yes(value):
+    """The word for a truth value."""
+    return "yes" if value else "no"
+
+
+def _names(bench):
+    return _spaced(bench.names())
+
+
+def _limit(bench):
+    return "none" if bench.limit is None else f"{bench.limit}"
+
+
+def _together(bench):
+    return f"{bench.together}"
+
+
+def _undo(bench):
+    bench.undo()
+    return "done"
+
+
+def _redo(bench):
+    bench.redo()
+    return "done"
+
+
+def _top(bench, name):
+    return bench.exchange_of(name).top.text()
+
+
+def _wedge(bench, name):
+    return bench.exchange_of(name).wedge.text()
+
+
+def _owed(bench, name):
+    return f"{bench.owed_by(name)}"
+
+
+def _text(bench, name):
+    return bench.exchange_of(name).text()
+
+
+def _fair(bench, name):
+    return _yes(bench.exchange_of(name).fair)
+
+
+def _same(bench, one, other):
+    return _yes(bench.same(one, other))
+
+
+def _sent(bench, name, word):
+    exchange = bench.exchange_of(name)
+    tone = read_tone(word)
+    if tone is None:
+        raise NotOnLine(word)
+    return tone_text(exchange(tone))
+
+
+def _roots(bench, name):
+    exchange = bench.exchange_of(name)
+    if exchange.fair:
+        return "all"
+    return " ".join([f"{k}" for k in root_numbers(exchange)])
+
+
+# how many words a question has, and what answers it
+WORDS = {
+    "names": 1, "limit": 1, "together": 1, "undo": 1, "redo": 1, "top": 2, "wedge": 2, "owed": 2, "text": 2, "fair": 2,
+    "roots": 2, "same": 3, "sent": 3,
+}
+ANSWERS = {
+    "names": _names, "limit": _limit, "together": _together, "undo": _undo, "redo": _redo, "top": _top,
+    "wedge": _wedge, "owed": _owed, "text": _text, "fair": _fair, "roots": _roots, "same": _same, "sent": _sent,
+}
+
+
+def answer(bench, line):
+    """The answer of a bench to a string, if there is no error."""
+    words = line.split(" ")
+    word, *rest = words
+    if word not in WORDS or len(words) != WORDS[word] or "" in words or "\n" in line:
+        return "unknown"
+    action = ANSWERS[word]
+    return action(bench, *rest)
