@@ -132,6 +132,33 @@ class ToldTest(unittest.TestCase):
         self.assertEqual((len(bench.names()), len(bench.journal())), (2, 5))
 
 
+class BusyTest(unittest.TestCase):
+    def test_busy(self):
+        bench = Bench()
+        bench.do(("line", "a", TWO))
+        seen = []
+
+        class Spy(Exchange):
+            """An exchange that looks whether the bench is busy when it is asked for its line."""
+            @property
+            def top(self):
+                seen.append(bench.busy)
+                return TWO
+
+            @top.setter
+            def top(self, value):
+                pass
+
+        spy = Spy(TWO, [(ONE, TWO, ONE)])
+        seen.clear()
+        bench.do(("do", "a", spy))
+        self.assertIn(True, seen)
+        self.assertNotIn(False, seen)
+        self.assertIs(bench.busy, False)
+        self.assertRaises(UnknownName, bench.do, ("do", "a", spy), ("home", "b"))
+        self.assertIs(bench.busy, False)
+
+
 class RefusedTest(unittest.TestCase):
     def check(self, bench, error, *deeds, **told):
         before = state_of(bench)

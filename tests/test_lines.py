@@ -214,7 +214,7 @@ class JoinedTest(unittest.TestCase):
                 with self.assertRaises(BadRow) as caught:
                     lines.joined([(ONE, TWO, TWO), value, None])
                 self.assertEqual(caught.exception.at, 1)
-        for row in [(NINE, FIFTH, ONE), (FIFTH, NINE, ONE), (ONE, NINE, Ratio(7, 5)), (ONE, FIFTH, NINE), (TWO, NINE, TWO)]:
+        for row in [(NINE, FIFTH, ONE), (FIFTH, NINE, ONE), (FIFTH, NINE, FOURTH), (ONE, NINE, Ratio(7, 5)), (ONE, FIFTH, NINE), (TWO, NINE, TWO)]:
             with self.assertRaises(OffLine) as caught:
                 lines.joined([good, good, row, row])
             self.assertEqual(caught.exception.at, 2)

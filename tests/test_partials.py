@@ -234,9 +234,13 @@ class CompletedTest(unittest.TestCase):
         gap = Ratio(1001, 1000)
         partial = Partial(TWO, [(ONE, TWO // gap, gap)])
         self.check_wedge(partial, Wedge([1, 0, 0, 0, 0, 0, 0, 0, 0, -1, 0, 0, 0, 0, 0], [0, 0, 0, 0, 0, 1]))
-        # a narrow gap and a wide one
-        rows = [(gap, FIFTH // gap, ONE)]
-        self.check_wedge(Partial(TWO, rows), Wedge([3] * 15))
+        # of a narrow gap and a wide one the wide one is taken, so that no great powers are needed
+        narrow = Ratio.of_powers([-1054, 665, 0, 0, 0, 0])
+        for rows in ([(narrow, FIFTH // narrow, ONE)], [(FOURTH, FIFTH // narrow, ONE)]):
+            partial = Partial(TWO, rows)
+            self.check_wedge(partial, Wedge([3] * 15))
+            whole = partial.completed(wedge=Wedge([3] * 15))
+            self.assertLess(max(abs(power) for row in whole.rows() for power in row[1].powers()), 5000)
 
     def test_nothing_left(self):
         for exchange in (fold(TWO, FIFTH), still(TWO), arranged([NINE, THIRD, NINE], [2, 1, 0])):

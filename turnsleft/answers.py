@@ -1,6 +1,5 @@
 """What a bench answers to strings of words."""
 
-from turnsleft.errors import NotOnLine
 from turnsleft.roots import root_numbers
 from turnsleft.words import read_tone, tone_text
 
@@ -63,10 +62,8 @@ def _same(bench, one, other):
 
 def _sent(bench, name, word):
     exchange = bench.exchange_of(name)
-    tone = read_tone(word)
-    if tone is None:
-        raise NotOnLine(word)
-    return tone_text(exchange(tone))
+    # where the word is no text of a tone, None is no tone of the line
+    return tone_text(exchange(read_tone(word)))
 
 
 def _roots(bench, name):

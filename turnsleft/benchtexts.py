@@ -21,7 +21,7 @@ def read_bench(text):
     # what stands behind the last line feed is the last row; nothing may stand there
     rows = text.split("\n")
     word, _, told = rows[0].partition(" ")
-    if word != "limit" or told not in LIMITS or len(rows) == 1:
+    if word != "limit" or told not in LIMITS:
         raise BadLine(0)
     limit = None if told == "none" else int(told)
     lines = {}
