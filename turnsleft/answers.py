@@ -15,58 +15,71 @@ def _yes(value):
 
 
 def _names(bench):
+    """The names of the lines."""
     return _spaced(bench.names())
 
 
 def _limit(bench):
+    """The greatest number of turns that a line may owe."""
     return "none" if bench.limit is None else f"{bench.limit}"
 
 
 def _together(bench):
+    """The number of turns that the sum of all wedges owes."""
     return f"{bench.together}"
 
 
 def _undo(bench):
+    """The last entry is taken back."""
     bench.undo()
     return "done"
 
 
 def _redo(bench):
+    """The entry that was taken back last is done again."""
     bench.redo()
     return "done"
 
 
 def _top(bench, name):
+    """The top of a line."""
     return bench.exchange_of(name).top.text()
 
 
 def _wedge(bench, name):
+    """The wedge of a line."""
     return bench.exchange_of(name).wedge.text()
 
 
 def _owed(bench, name):
+    """The number of turns that a line owes."""
     return f"{bench.owed_by(name)}"
 
 
 def _text(bench, name):
+    """The exchange of a line."""
     return bench.exchange_of(name).text()
 
 
 def _fair(bench, name):
+    """Whether the exchange of a line is fair."""
     return _yes(bench.exchange_of(name).fair)
 
 
 def _same(bench, one, other):
+    """Whether two lines have one top and one table."""
     return _yes(bench.same(one, other))
 
 
 def _sent(bench, name, word):
+    """Where the exchange of a line leads a tone."""
     exchange = bench.exchange_of(name)
     # where the word is no text of a tone, None is no tone of the line
     return tone_text(exchange(read_tone(word)))
 
 
 def _roots(bench, name):
+    """The numbers of which the exchange of a line has roots."""
     exchange = bench.exchange_of(name)
     if exchange.fair:
         return "all"
